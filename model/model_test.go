@@ -142,6 +142,22 @@ func TestEqual(t *testing.T) {
 	}
 }
 
+// Promise P1: things that turn out not to be comparable are not the same.
+func TestEqualOfAny(t *testing.T) {
+	a, b := model.New[any](2), model.New[any](2)
+	a.Push([]int{1})
+	b.Push([]int{1})
+	if model.Equal(a, b) {
+		t.Error("the same")
+	}
+	a, b = model.New[any](2), model.New[any](2)
+	a.Push(1)
+	b.Push(1)
+	if !model.Equal(a, b) {
+		t.Error("not the same")
+	}
+}
+
 // Promise 14.1: of nil, and of nothing.
 func TestNil(t *testing.T) {
 	var d *model.Deque[int]
