@@ -11,7 +11,7 @@ import (
 )
 
 // built is how many layers, from the first one on, are built, so that their ways must be there.
-const built = 43
+const built = 44
 
 // checker reads the types of the program's packages.
 type checker struct {
