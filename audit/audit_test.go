@@ -103,6 +103,12 @@ func TestLook(t *testing.T) {
 			t.Error(i, e, x.want)
 		}
 	}
+	if e := audit.Look([]worker.View{v(run, 4)}, [][]int{{3}}, kinds[:4]); e != api.OK {
+		t.Error(e)
+	}
+	if e := audit.Look(nil, [][]int{{4}}, kinds[:3]); e != api.ErrNone {
+		t.Error(e)
+	}
 	if e := audit.Look([]worker.View{v(run, 1)}, nil, nil); e != api.ErrNone {
 		t.Error(e)
 	}
@@ -119,6 +125,24 @@ func TestCounts(t *testing.T) {
 	}
 	if audit.Waiting(nil) != 0 || audit.Waiting([][]int{{1, 2}, nil, {9, 9, -1}}) != 5 {
 		t.Error(audit.Waiting([][]int{{1, 2}, nil, {9, 9, -1}}))
+	}
+}
+
+// Promise 37.1: as many frames as there may be.
+func TestAllFrames(t *testing.T) {
+	p := api.Program{Funcs: [][]api.Ins{{{Op: api.Spawn}, {Op: api.Ret}}}}
+	m, e := machine.New(p, nil, api.Params{Workers: 1, Throttle: 1, Frames: 256, Deque: 256})
+	if e != api.OK {
+		t.Fatal(e)
+	}
+	for !m.Ended() {
+		m.Step(api.Pick{})
+		if e := audit.Check(m); e != api.OK {
+			t.Fatal(m.Frames(), e)
+		}
+	}
+	if m.Frames() != 256 || m.Workers()[0].Holds != 256 {
+		t.Error(m.Frames(), m.Workers())
 	}
 }
 

@@ -165,6 +165,30 @@ func TestParameters(t *testing.T) {
 	lead(t, c, "workers 3", "begin", "worker 2 -> 0 0 0 0", "step 2 0 -> going", "worker 2 -> 1 0 0 1", "worker 3"+span, "step -1 0 -> going", "step 5 5 -> going", "stats -> 3 1 0 0 0 0 1")
 }
 
+// Promise 39.1: without having been set the parameters are those that the document names.
+func TestDefaults(t *testing.T) {
+	for _, text := range []string{loop, "memory 0; function; spawn 0; ret", "memory 0; function; emit 0; jump 0"} {
+		for _, frames := range []int{64, 200} {
+			p, e := asm.Read(strings.ReplaceAll(text, "; ", "\n"))
+			if e != api.OK {
+				t.Fatal(e)
+			}
+			q := api.Params{Workers: 1, Throttle: 1, Frames: frames, Deque: 64, Output: 100}
+			c := console.New()
+			written(t, c, text)
+			if frames != 64 {
+				lead(t, c, fmt.Sprint("frames ", frames))
+			}
+			m, _ := machine.New(p, nil, q)
+			for range 3000 {
+				m.Step(api.Pick{})
+			}
+			s := m.Result().Stats
+			lead(t, c, "begin", "turns 3000 0 -> "+run.Say(m.Result()), fmt.Sprint("stats -> ", s.Steps, " ", s.Probes, " ", s.Steals, " ", s.Parks, " ", s.Naps, " ", s.Folds, " ", s.Peak))
+		}
+	}
+}
+
 // loop is a pipeline of three iterations, each of two stages that wait.
 const loop = "memory 1; function; pipe 1; emit 0; ret; function; set 1 1; add 0 0 1; set 2 3; less 3 2 0; zero 3 6; break; wait 1; emit 0; set 4 2; wait 4; fetch 5 6 1; ret"
 

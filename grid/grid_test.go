@@ -163,6 +163,18 @@ func TestBefore(t *testing.T) {
 	}
 }
 
+// Promise 33.2: many ways, of which each is gone once.
+func TestBeforeGreat(t *testing.T) {
+	cells := row(0)
+	for stage := 1; stage < 100; stage++ {
+		cells = append(cells, api.Cell{Stage: stage, Wait: true})
+	}
+	rows := slices.Repeat([][]api.Cell{cells}, 100)
+	if !grid.Before(rows, 0, 99+99i) || !grid.Before(rows, 50i, 99+51i) || grid.Before(rows, 50i, 99+49i) || grid.Before(rows, 99+99i, 0) {
+		t.Error("ways")
+	}
+}
+
 // Promise 33.3: next nodes, and mirrors.
 func TestStepMirror(t *testing.T) {
 	if grid.Step(3+4i, true) != 3+5i || grid.Step(3+4i, false) != 4+4i || grid.Step(0, true) != 1i || grid.Step(-1.5, false) != -0.5 {

@@ -113,6 +113,12 @@ func TestLast(t *testing.T) {
 			t.Error(x, e, ok)
 		}
 	}
+	if e, ok := noted(some[:4]).Last(2, 0); e != some[2] || !ok {
+		t.Error(e, ok)
+	}
+	if e, ok := noted(some[:1]).Last(4, 0); e != some[0] || !ok {
+		t.Error(e, ok)
+	}
 	for _, x := range [][2]int{{4, 2}, {3, 0}, {2, 1}, {-9, -1}, {0, 0}} {
 		if e, ok := l.Last(x[0], x[1]); e != (api.Event{}) || ok {
 			t.Error(x, e, ok)

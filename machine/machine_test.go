@@ -262,6 +262,9 @@ func TestActive(t *testing.T) {
 			t.Error(loop, got)
 		}
 	}
+	if got := machine.Active(l[:10], 3); got != 0 { // more have finished than started
+		t.Error(got)
+	}
 	for n, want := range []int{0, 1, 1, 1, 2, 2, 3, 3, 3, 3, 3, 3, 3, 3} {
 		if got := machine.Most(l[:n]); got != want {
 			t.Error(n, got)

@@ -135,7 +135,7 @@ func TestOrder(t *testing.T) {
 			t.Error(i, x.l, got)
 		}
 	}
-	if reach.Order(nil, []int{0}) || !reach.Order(nil, nil) || reach.Order([][]int{{0}}, []int{0}) || reach.Order([][]int{{-1}}, []int{0}) || reach.Order([][]int{{most}}, []int{0}) {
+	if reach.Order(nil, []int{0}) || !reach.Order(nil, nil) || reach.Order([][]int{{0}}, []int{0}) || reach.Order([][]int{{-1}}, []int{0}) || reach.Order([][]int{{1}}, []int{0}) || reach.Order([][]int{nil, {2}}, []int{0, 1}) || reach.Order([][]int{{most}}, []int{0}) {
 		t.Error("orders of other things")
 	}
 }

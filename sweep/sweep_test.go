@@ -146,6 +146,7 @@ func TestSweep(t *testing.T) {
 // Promise 44.3: verdicts.
 func TestVerdict(t *testing.T) {
 	long := "memory 0; function; set 1 30000; set 2 1; sub 1 1 2; zero 1 5; jump 2; ret" // nearly as many instructions as there is fuel for
+	all := "memory 0; function; set 1 16666; add 1 1 1; set 3 1; set 2 1; sub 1 1 2; zero 1 7; jump 4; ret" // just as many
 	for i, x := range []struct {
 		text    string
 		input   []int
@@ -168,6 +169,7 @@ func TestVerdict(t *testing.T) {
 		{"memory 0; function; jump 0", nil, plain(1), "a", 1, 99, sweep.Open},
 		{"memory 0; function; emit 0; emit 0; ret", nil, api.Params{Workers: 1, Throttle: 1, Frames: 1, Deque: 2, Output: 1}, "a", 1, 99, sweep.Open},
 		{long, nil, plain(1), "a", 1, 100000, sweep.Same},
+		{all, nil, plain(1), "a", 1, 100000, sweep.Same},
 	} {
 		if got := sweep.Verdict(read(t, x.text), x.input, x.q, x.letters, x.length, x.steps); got != x.want {
 			t.Error(i, got, x.want)

@@ -328,6 +328,33 @@ func TestFoldShort(t *testing.T) {
 	x.stats(1, 1, 1, 0, 0)
 }
 
+// The iteration 2 looks at the iteration 1, and waits for that.
+func TestLookAtNext(t *testing.T) {
+	x := gather(t, 0, iterations("3")+stages, two)
+	p := x.c.Plan()
+	x.till(0, 0, "check 3")
+	x.till(1, 0, "look 4")
+	x.till(1, 0, "pop 0") // the iteration 1 has come to 1, and waits there
+	x.till(1, 0, "look 5")
+	at := -1
+	x.c.Words().Hook(func(n int, _ bool) { at = n })
+	x.step(1, 0)
+	if f := x.c.Frames().At(5); at != p.Counter(2, 1) || f.Fold != 1 || f.Index != 2 {
+		t.Error(at, *f)
+	}
+	x.step(1, 0)
+	if at != p.Status(2, 2) {
+		t.Error(at)
+	}
+	x.step(1, 0)
+	if at != p.Counter(2, 1) {
+		t.Error(at)
+	}
+	x.c.Words().Hook(nil)
+	x.both()
+	x.status(api.Done, 0)
+}
+
 // cont does not wait, and is noted so.
 func TestCont(t *testing.T) {
 	x := gather(t, 0, iterations("2")+"cont 1; emit 0; set 4 2; cont 4; emit 0; ret", two)
