@@ -145,7 +145,7 @@ func TestSweep(t *testing.T) {
 
 // Promise 44.3: verdicts.
 func TestVerdict(t *testing.T) {
-	long := "memory 0; function; set 1 30000; set 2 1; sub 1 1 2; zero 1 5; jump 2; ret" // nearly as many instructions as there is fuel for
+	long := "memory 0; function; set 1 30000; set 2 1; sub 1 1 2; zero 1 5; jump 2; ret"                    // nearly as many instructions as there is fuel for
 	all := "memory 0; function; set 1 16666; add 1 1 1; set 3 1; set 2 1; sub 1 1 2; zero 1 7; jump 4; ret" // just as many
 	for i, x := range []struct {
 		text    string

@@ -18,8 +18,8 @@ func (d *dice) roll(n int) int {
 // one is whether one of n is drawn.
 func (d *dice) one(n int) bool { return d.roll(n) == 0 }
 
-// ins is an instruction.
-func ins(op int, l ...int) api.Ins {
+// instr is an instruction.
+func instr(op int, l ...int) api.Ins {
 	l = append(l, 0, 0, 0)
 	return api.Ins{Op: op, A: l[0], B: l[1], C: l[2]}
 }
@@ -78,13 +78,13 @@ func (m *maker) root() {
 		case 0:
 			m.spawn(parent)
 		case 1:
-			m.b.Add(ins(api.Set, inner, 0), ins(api.Pipe, innerPipe))
+			m.b.Add(instr(api.Set, inner, 0), instr(api.Pipe, innerPipe))
 		default:
-			m.b.Add(ins(api.Set, outer, 0), ins(api.Pipe, outerPipe))
+			m.b.Add(instr(api.Set, outer, 0), instr(api.Pipe, outerPipe))
 		}
 	}
 	m.plain(true)
-	m.b.Add(ins(api.Ret))
+	m.b.Add(instr(api.Ret))
 }
 
 // plain is some instructions that go straight on.
@@ -92,55 +92,55 @@ func (m *maker) plain(ordered bool) {
 	for range m.roll(4) {
 		switch m.roll(7) {
 		case 0:
-			m.b.Add(ins(api.Set, value, m.roll(9)-4))
+			m.b.Add(instr(api.Set, value, m.roll(9)-4))
 		case 1:
-			m.b.Add(ins(api.Add+m.roll(3), value, value, m.roll(8)))
+			m.b.Add(instr(api.Add+m.roll(3), value, value, m.roll(8)))
 		case 2, 3:
 			if ordered || m.wild && m.one(3) {
-				m.b.Add(ins(api.Emit, m.roll(8)))
+				m.b.Add(instr(api.Emit, m.roll(8)))
 			}
 		case 4:
-			m.b.Add(ins(api.Set, word, m.roll(m.memory)), ins(api.Load, value, word))
+			m.b.Add(instr(api.Set, word, m.roll(m.memory)), instr(api.Load, value, word))
 		case 5, 6:
 			if ordered && m.one(2) || m.wild && m.one(3) {
 				op := []int{api.Store, api.Fetch, api.Swap}[m.roll(3)]
-				m.b.Add(ins(api.Set, word, m.roll(m.memory)))
+				m.b.Add(instr(api.Set, word, m.roll(m.memory)))
 				if op == api.Store {
-					m.b.Add(ins(op, word, value))
+					m.b.Add(instr(op, word, value))
 				} else {
-					m.b.Add(ins(op, value, word, value))
+					m.b.Add(instr(op, value, word, value))
 				}
 			}
 		}
 	}
 	if m.wild && m.one(40) {
-		m.b.Add([]api.Ins{ins(api.Div, 1, 1, 3), ins(api.Load, 1, 2), ins(api.Break), ins(api.Wait, asked), ins(api.Sync)}[m.roll(5)])
+		m.b.Add([]api.Ins{instr(api.Div, 1, 1, 3), instr(api.Load, 1, 2), instr(api.Break), instr(api.Wait, asked), instr(api.Sync)}[m.roll(5)])
 	}
 }
 
 // spawn spawns a function, and mostly meets it soon.
 func (m *maker) spawn(fn int) {
 	for range 1 + m.roll(2) {
-		m.b.Add(ins(api.Spawn, fn))
+		m.b.Add(instr(api.Spawn, fn))
 		if m.one(3) {
 			m.plain(false)
 		}
 		if m.one(2) {
-			m.b.Add(ins(api.Sync))
+			m.b.Add(instr(api.Sync))
 		}
 	}
 	if !m.one(3) {
-		m.b.Add(ins(api.Sync))
+		m.b.Add(instr(api.Sync))
 	}
 }
 
 // pipe is the function of a loop, with a counter, of so many iterations.
 func (m *maker) pipe(counter, iterations int, nests bool) {
 	m.b.Func()
-	m.b.Add(ins(api.Set, one, 1), ins(api.Add, counter, counter, one), ins(api.Set, many, iterations), ins(api.Less, asked, many, counter))
+	m.b.Add(instr(api.Set, one, 1), instr(api.Add, counter, counter, one), instr(api.Set, many, iterations), instr(api.Less, asked, many, counter))
 	m.b.IfZero(asked, "on")
 	m.plain(true)
-	m.b.Add(ins(api.Break))
+	m.b.Add(instr(api.Break))
 	m.b.Label("on")
 	m.plain(true) // the first stages come one behind the other
 	if m.one(5) {
@@ -149,30 +149,30 @@ func (m *maker) pipe(counter, iterations int, nests bool) {
 	stage := 0
 	for range m.roll(5) {
 		stage += 1 + m.roll(3)
-		m.b.Add(ins(api.Set, at, stage))
+		m.b.Add(instr(api.Set, at, stage))
 		waits := !m.one(3)
 		if waits {
-			m.b.Add(ins(api.Wait, at))
+			m.b.Add(instr(api.Wait, at))
 		} else {
-			m.b.Add(ins(api.Cont, at))
+			m.b.Add(instr(api.Cont, at))
 		}
 		m.plain(waits && m.one(2))
 		if m.one(4) {
 			m.spawn(leaf + m.roll(1))
 		}
 		if nests && m.one(4) {
-			m.b.Add(ins(api.Set, inner, m.roll(2)), ins(api.Pipe, innerPipe))
+			m.b.Add(instr(api.Set, inner, m.roll(2)), instr(api.Pipe, innerPipe))
 		}
 		if m.one(6) {
 			m.later(counter, &stage)
 		}
 	}
-	m.b.Add(ins(api.Ret))
+	m.b.Add(instr(api.Ret))
 }
 
 // later goes on to a stage that is reckoned of the counter, so iterations have other ones.
 func (m *maker) later(counter int, stage *int) {
-	m.b.Add(ins(api.Set, at, *stage), ins(api.Set, one, 1), ins(api.Add, at, at, one), ins(api.Add, at, at, counter), ins([]int{api.Wait, api.Cont}[m.roll(2)], at))
+	m.b.Add(instr(api.Set, at, *stage), instr(api.Set, one, 1), instr(api.Add, at, at, one), instr(api.Add, at, at, counter), instr([]int{api.Wait, api.Cont}[m.roll(2)], at))
 	*stage += 12
 }
 
@@ -185,13 +185,13 @@ func (m *maker) task(spawns bool) {
 	}
 	m.plain(false)
 	if m.one(3) {
-		m.b.Add(ins(api.Set, value, 1+m.roll(5)), ins(api.Set, one, 1))
-		again := m.b.Add(ins(api.Sub, value, value, one)) - 1
+		m.b.Add(instr(api.Set, value, 1+m.roll(5)), instr(api.Set, one, 1))
+		again := m.b.Add(instr(api.Sub, value, value, one)) - 1
 		m.b.IfZero(value, "out")
-		m.b.Add(ins(api.Jump, again))
+		m.b.Add(instr(api.Jump, again))
 		m.b.Label("out")
 	}
-	m.b.Add(ins(api.Ret))
+	m.b.Add(instr(api.Ret))
 }
 
 // random is a program of any instructions.
@@ -223,7 +223,7 @@ func random(seed int) api.Program {
 			}
 			l = append(l, x)
 		}
-		last := []api.Ins{ins(api.Ret), ins(api.Break), ins(api.Jump, d.roll(n+1))}[d.roll(3)]
+		last := []api.Ins{instr(api.Ret), instr(api.Break), instr(api.Jump, d.roll(n+1))}[d.roll(3)]
 		p.Funcs = append(p.Funcs, append(l, last))
 	}
 	return p
