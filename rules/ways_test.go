@@ -2,10 +2,12 @@ package rules
 
 import (
 	"go/ast"
+	"go/build"
 	"go/importer"
 	"go/token"
 	"go/types"
 	"maps"
+	"os/exec"
 	"strings"
 	"testing"
 )
@@ -24,6 +26,10 @@ type checker struct {
 }
 
 func newChecker(t *testing.T) *checker {
+	if build.Default.GOROOT == "" { // of a toolchain that doesn't tell where it lies
+		out, _ := exec.Command("go", "env", "GOROOT").Output()
+		build.Default.GOROOT = strings.TrimSpace(string(out))
+	}
 	set := token.NewFileSet()
 	return &checker{
 		t: t, set: set, std: importer.ForCompiler(set, "source", nil),
